@@ -1,0 +1,1 @@
+"""Layerdial: settings in layers, locked and undone."""
